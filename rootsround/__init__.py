@@ -1,0 +1,1 @@
+"""Rootsround: roots of polynomials whose chains of fractions come round."""

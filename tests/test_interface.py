@@ -1,0 +1,63 @@
+"""The interface: each name is defined in its own file, with its parameters, and methods in the class itself."""
+
+import ast
+import os
+import unittest
+
+FOLDER = os.path.join(os.path.dirname(os.path.dirname(os.path.abspath(__file__))), "rootsround")
+
+LISTED = {
+    "basics": ["is_integer(value)", "is_count(value)"],
+    "ratios": [
+        "is_number(value)", "Ratio.__init__(self, top, bottom)", "Ratio.top(self)", "Ratio.bottom(self)",
+        "Ratio.sign(self)", "Ratio.is_whole(self)", "Ratio.__add__(self, other)", "Ratio.__radd__(self, other)",
+        "Ratio.__sub__(self, other)", "Ratio.__rsub__(self, other)", "Ratio.__mul__(self, other)",
+        "Ratio.__rmul__(self, other)", "Ratio.__neg__(self)", "Ratio.over(self, other)", "Ratio.size(self)",
+        "Ratio.is_below(self, other)", "Ratio.is_at_most(self, other)", "Ratio.__eq__(self, other)",
+        "Ratio.total(cls, numbers)", "Ratio.__str__(self)", "Ratio.__repr__(self)"],
+    "polys": [
+        "is_poly(value)", "told(poly)", "degree(poly)", "plus(poly, other)", "minus(poly, other)",
+        "scaled(poly, number)", "derived(poly)", "times(poly, other)", "put_in(poly, other)", "worth(poly, number)",
+        "divided(poly, other)"],
+    "parts": [
+        "common(poly, other)", "shares(poly, other)", "is_shares(poly, other, value)", "square_part(poly)",
+        "odd_part(poly)", "has_square(poly)"],
+}
+PROPERTIES = ["Ratio.top", "Ratio.bottom", "Ratio.sign", "Ratio.is_whole"]
+CLASS_METHODS = ["Ratio.total"]
+
+
+def heads(name):
+    """The functions and methods of a file: their heads, and the decorators by their names."""
+    with open(os.path.join(FOLDER, name + ".py"), encoding="utf-8") as file:
+        tree = ast.parse(file.read())
+    found = {}
+    for node in tree.body:
+        inside = [("", node)] if isinstance(node, ast.FunctionDef) else []
+        if isinstance(node, ast.ClassDef):
+            inside = [(node.name + ".", one) for one in node.body if isinstance(one, ast.FunctionDef)]
+        for ahead, one in inside:
+            told = ", ".join(part.arg for part in one.args.args)
+            found[f"{ahead}{one.name}({told})"] = [part.id for part in one.decorator_list]
+    return found
+
+
+class InterfaceTest(unittest.TestCase):
+    def test_each_name_stands_in_its_file(self):
+        for name, listed in LISTED.items():
+            found = heads(name)
+            for head in listed:
+                self.assertIn(head, found, name)
+
+    def test_properties_and_class_methods(self):
+        for name in LISTED:
+            for head, decorators in heads(name).items():
+                path = head.partition("(")[0]
+                if "." not in path:
+                    continue
+                wanted = ["property"] if path in PROPERTIES else ["classmethod"] if path in CLASS_METHODS else []
+                self.assertEqual(decorators, wanted, head)
+
+    def test_there_is_one_package_and_no_test_in_it(self):
+        for name in os.listdir(FOLDER):
+            self.assertFalse(name.startswith("test"), name)
