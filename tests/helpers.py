@@ -5,7 +5,9 @@ import random
 import unittest
 from fractions import Fraction
 
+from rootsround.errors import HasSquare
 from rootsround.ratios import Ratio
+from rootsround.roots import Root
 
 NOT_INTEGERS = [None, True, False, "1", "", b"1", [], [1], (), (1,), {}, {1: 1}, {1}, object(), int, Ratio(1), Ratio(0)]
 NOT_NUMBERS = NOT_INTEGERS[:-2] + [Ratio, [Ratio(1)], (Ratio(1), 1)]
@@ -169,3 +171,18 @@ def some_poly(source, degree, most=9, wide=6):
 def source_of(seed):
     """A sequence of choices that is the same each time."""
     return random.Random(seed)
+
+
+def some_root(source, degrees=(2, 4, 6, 8)):
+    """A Root of one of the degrees."""
+    while True:
+        poly = [some_number(source) for _ in range(source.choice(degrees))]
+        side = ratio(Fraction(source.randint(1, 3), source.randint(1, 2)))
+        try:
+            return Root(poly + [side * side])
+        except HasSquare:
+            continue
+
+
+NOT_ROOTS = [None, True, False, 0, 1, Ratio(1), "root", b"", [], [1, 0, 1], (1, 0, 1), {}, {1}, object(), Root,
+             [Root([1, 0, 1])], (Root([1, 0, 1]),)]

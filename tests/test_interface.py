@@ -22,8 +22,21 @@ LISTED = {
     "parts": [
         "common(poly, other)", "shares(poly, other)", "is_shares(poly, other, value)", "square_part(poly)",
         "odd_part(poly)", "has_square(poly)"],
+    "signs": ["root_count(poly, low, high)", "fences(poly)", "is_fences(poly, value)"],
+    "roots": [
+        "Root.__init__(self, poly)", "Root.degree(self)", "Root.half(self)", "Root.poly(self)", "Root.nearest(self)",
+        "Root.rest(self)", "Root.__eq__(self, other)", "Root.__repr__(self)"],
+    "series": ["written(root, many)", "near(root, poly)"],
+    "moves": [
+        "moved_root(root, first, second)", "scaled_root(root, number)", "alike(root, other)",
+        "is_alike(root, other, value)"],
+    "states": [
+        "State.__init__(self, root, first, second)", "State.root(self)", "State.first(self)", "State.second(self)",
+        "State.whole(self)", "State.next(self)", "State.back(self)", "State.is_reduced(self)",
+        "State.__eq__(self, other)", "State.__repr__(self)", "first_state(root)"],
 }
-PROPERTIES = ["Ratio.top", "Ratio.bottom", "Ratio.sign", "Ratio.is_whole"]
+PROPERTIES = [
+    "Ratio.top", "Ratio.bottom", "Ratio.sign", "Ratio.is_whole", "Root.degree", "Root.half", "State.is_reduced"]
 CLASS_METHODS = ["Ratio.total"]
 
 
