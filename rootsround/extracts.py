@@ -7,7 +7,7 @@ from rootsround.wholes import power
 def whole_below(number, many):
     """The greatest COUNT whose power, taken many times, is at most the COUNT."""
     # Newton's way from above: each guess is too great or the one that is looked for
-    guess = 1 << (number.bit_length() // many + 1)
+    guess = power(2, number.bit_length() // many + 1)
     while power(guess, many) > number:
         guess = ((many - 1) * guess + number // power(guess, many - 1)) // many
     return guess

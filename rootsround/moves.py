@@ -41,10 +41,10 @@ def centre_of(poly):
 
 
 def first_numbers(ours, theirs):
-    """At most two Ratios, among them each first number by which roots are alike.
+    """Two Ratios or none, among them each first number by which roots are alike.
 
     Both polynomials are told and have no power just below their highest one.
-    So theirs is ours with first x in the place of x, times a number; the
+    So theirs is ours with first x in the place of x, times a number: the
     highest two powers tell a power of the first number.
     """
     last = len(ours) - 1
@@ -52,14 +52,9 @@ def first_numbers(ours, theirs):
     at = lower[-1]
     if theirs[at].sign == 0:
         return []
-    many = last - at
     worth = (theirs[last] * ours[at]).over(ours[last] * theirs[at])
-    size = extracted(worth.size(), many)
-    if size is None or (worth.sign < 0 and many % 2 == 0):
-        return []
-    if many % 2 == 0:
-        return [size, -size]
-    return [size * worth.sign]
+    size = extracted(worth.size(), last - at)
+    return [] if size is None else [size, -size]
 
 
 def third_number(root, other, first):

@@ -1,22 +1,11 @@
 """What polynomials have in common, and the squares in them."""
 
 from rootsround.errors import NoughtPoly
-from rootsround.plain import added, bare, grown, lessened, monic, multiplied, parted, restored, slope
+from rootsround.plain import (
+    added, bare, grown, is_multiple, lessened, monic, multiplied, quotient_of, restored, slope)
 from rootsround.polys import is_poly, told
 from rootsround.ratios import Ratio
 from rootsround.wholes import are_apart, last_rest
-
-
-def quotient_of(poly, divisor):
-    """The quotient of two told polynomials, the divisor not nought."""
-    quotient, _ = parted(poly, divisor)
-    return quotient
-
-
-def is_multiple(poly, divisor):
-    """Whether the divisor, not nought, divides the polynomial, both told."""
-    _, rest = parted(poly, divisor)
-    return not rest
 
 
 def common_part(first, second):

@@ -80,6 +80,18 @@ def parted(first, second):
     return restored(scaled_quotient, factor * upper_bottom), restored(rest, factor * upper_bottom)
 
 
+def quotient_of(poly, divisor):
+    """The quotient of two told polynomials, the divisor not nought."""
+    quotient, _ = parted(poly, divisor)
+    return quotient
+
+
+def is_multiple(poly, divisor):
+    """Whether the divisor, not nought, divides the polynomial, both told."""
+    _, rest = parted(poly, divisor)
+    return not rest
+
+
 def worth_at(poly, number):
     """What the polynomial comes to with the Ratio in the place of x."""
     tops, bottom = cleared(poly)

@@ -1,8 +1,7 @@
 """States of chains."""
 
 from rootsround.errors import NoState, NotReduced, TooMany
-from rootsround.parts import is_multiple, quotient_of
-from rootsround.plain import added, lessened, multiplied, parted
+from rootsround.plain import added, is_multiple, lessened, multiplied, parted, quotient_of
 from rootsround.polys import told
 from rootsround.roots import wanted_root
 

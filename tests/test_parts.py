@@ -2,7 +2,8 @@
 
 from rootsround.errors import InvalidPoly, NoughtPoly
 from rootsround.parts import common, has_square, is_shares, odd_part, shares, square_part
-from rootsround.polys import degree, derived, divided, plus, scaled, times, told
+from rootsround.plain import cleared
+from rootsround.polys import degree, derived, divided, minus, plus, put_in, scaled, times, told
 from rootsround.ratios import Ratio
 from rootsround.wholes import are_apart, last_rest
 from tests.helpers import NOT_POLYS, Checks, fracs, ratio, ratios, some_number, some_poly, source_of
@@ -81,6 +82,20 @@ class CommonTest(Checks):
         self.assertEqual(common(times(part, [1, 1]), times(part, [-1, 0, 1])), times(part, [1, 1]))
         self.assertEqual(common([great, 0, 1], [great + 1, 0, 1]), ONE)
 
+    def test_gaps_between_the_degrees_of_rests(self):
+        source = source_of(18)
+        for gap in (2, 3, 4):
+            inner = [0] * gap + [1]
+            for _ in range(15):
+                part, more = some_poly(source, source.randint(1, 2)), some_poly(source, 1)
+                first = times(put_in(times(part, some_poly(source, 4)), inner), more)
+                second = times(put_in(times(part, some_poly(source, 3)), inner), more)
+                result = common(first, second)
+                self.assertEqual(result, ratios(frac_common(fracs(first), fracs(second))))
+                self.assertGreater(degree(result), gap)
+        knuth = times([-5, 2, 8, -3, -3, 0, 1, 0, 1], [2, 0, 0, 5]), times([21, -9, -4, 0, 5, 0, 3], [2, 0, 0, 5])
+        self.assertEqual(common(*knuth), [Ratio(2, 5), Ratio(0), Ratio(0), Ratio(1)])
+
     def test_rests_have_no_needless_factor(self):
         last, share = last_rest([1, 0, 0, 0, 1], [1, 2, 3], [1], [])
         self.assertEqual(len(last), 1)
@@ -121,6 +136,28 @@ class SharesTest(Checks):
         for poly, other in [([1, 0, 0, 0, 0, 1], [1, 0, 1]), ([2, 0, 0, 0, 0, 0, 0, 3], [0, 1, 5]),
                             ([1] + [0] * 11 + [5], [3, 0, 0, 0, 7]), ([1, 0, 0, 2], [5, 0, 0, 0, 0, 0, 0, 4])]:
             self.check(poly, other)
+
+    def test_gaps_between_the_degrees_of_rests(self):
+        self.check([-5, 2, 8, -3, -3, 0, 1, 0, 1], [21, -9, -4, 0, 5, 0, 3])
+        source = source_of(19)
+        for gap in (2, 3, 4, 5):
+            inner = [0] * gap + [1]
+            for _ in range(15):
+                more = some_poly(source, source.randint(0, 1))
+                first, second = some_poly(source, source.randint(2, 5)), some_poly(source, source.randint(2, 5))
+                self.check(times(put_in(first, inner), more), times(put_in(second, inner), more))
+
+    def test_rests_without_fractions(self):
+        source = source_of(20)
+        for gap in (1, 2, 3):
+            inner = [0] * gap + [1]
+            for _ in range(20):
+                first = cleared(put_in(some_poly(source, 5), inner))[0]
+                second = cleared(put_in(some_poly(source, 4), inner))[0]
+                last, share = last_rest(first, second, [1], [])
+                left = minus(last, times(share, first))
+                self.assertEqual(divided(left, second)[1], [])
+                self.assertEqual(divided(last, common(first, second))[1], [])
 
     def test_great_degrees(self):
         source = source_of(14)

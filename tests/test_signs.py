@@ -191,7 +191,9 @@ class FencesTest(Checks):
         for value in [good[::-1], good[:-1], good[1:], good + [4], [-3] + good, [], [good], [-2, -2, 1, 3],
                       [-2, Ratio(-1, 2), Ratio(-1, 2), 3], [-2, Ratio(-1, 2), 3, 1], [-1, Ratio(-1, 2), 1, 3],
                       [-2, 0, 1, 3], [-2, Ratio(-1, 2), 1, 2], [-2, Ratio(-1, 2), 2, 3], [3, 4, 5, 6],
-                      [-2, Ratio(1, 2), 1, 3], [-2, 1, Ratio(-1, 2), 3], [-2, Ratio(-3, 4), Ratio(-1, 2), 3]]:
+                      [-2, Ratio(1, 2), 1, 3], [-2, 1, Ratio(-1, 2), 3], [-2, Ratio(-3, 4), Ratio(-1, 2), 3],
+                      [Ratio(-3, 4), Ratio(-1, 2), 1, 3], [-2, Ratio(-1, 2), 1, Ratio(3, 2)], [-2, -3, 1, 3],
+                      [4, Ratio(-1, 2), 1, 3], [-2, Ratio(-1, 2), 1, -3]]:
             with self.subTest(value=value):
                 self.assert_bool(is_fences(poly, value), False)
         for value in NOT_NUMBERS:
