@@ -132,6 +132,11 @@ def last_rest(upper, lower, upper_share, lower_share):
     return upper, upper_share
 
 
+def rests_modulo(numbers, prime):
+    """The polynomial modulo the prime."""
+    return cut([number % prime for number in numbers])
+
+
 def rest_modulo(upper, lower, prime):
     """A number, not 0, times the rest of upper divided by lower, modulo the prime."""
     head = lower[-1]
@@ -143,6 +148,13 @@ def rest_modulo(upper, lower, prime):
     return upper
 
 
+def are_apart_modulo(upper, lower, prime):
+    """Whether two polynomials of rests, the upper one not nought, have no common part modulo the prime."""
+    while lower:
+        upper, lower = lower, rest_modulo(upper, lower, prime)
+    return len(upper) == 1
+
+
 def are_apart(first, second):
     """Whether two polynomials have no common part modulo one great prime.
 
@@ -150,10 +162,8 @@ def are_apart(first, second):
     degree of the common part can only grow modulo a prime. It is a quick
     look that spares most of the long divisions.
     """
-    upper = cut([number % GREAT_PRIME for number in first])
-    lower = cut([number % GREAT_PRIME for number in second])
+    upper = rests_modulo(first, GREAT_PRIME)
+    lower = rests_modulo(second, GREAT_PRIME)
     if len(upper) < len(first) or len(lower) < len(second):
         return False
-    while lower:
-        upper, lower = lower, rest_modulo(upper, lower, GREAT_PRIME)
-    return len(upper) == 1
+    return are_apart_modulo(upper, lower, GREAT_PRIME)
