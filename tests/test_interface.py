@@ -34,6 +34,25 @@ LISTED = {
         "State.__init__(self, root, first, second)", "State.root(self)", "State.first(self)", "State.second(self)",
         "State.whole(self)", "State.next(self)", "State.back(self)", "State.is_reduced(self)",
         "State.__eq__(self, other)", "State.__repr__(self)", "first_state(root)"],
+    "chains": ["quotients(root, many)", "states(root, many)", "parts(root, many)", "norm(root, first, second)"],
+    "best": ["part_of(root, first, second)", "led(state)"],
+    "units": [
+        "is_unit(root, value)", "unit_number(root, unit)", "contrary(root, unit)",
+        "times_unit(root, unit, other_unit)"],
+    "powers": ["power_unit(root, unit, many)", "stands(root, unit, number)", "with_number(root, unit, number)"],
+    "least": [
+        "least_unit(root, most)", "half_round(root, most)", "whole_round(root, most)", "is_least(root, unit)",
+        "place_of(root, unit)"],
+    "primes": ["is_prime(value)", "keeps(root, prime)", "kept_primes(root, many)"],
+    "rests": [
+        "rests_of(poly, prime)", "rest_degree(root, prime)", "rest_unit(root, prime)",
+        "is_rest_unit(root, prime, value)"],
+    "verdicts": [
+        "round_degree(root)", "is_round(root)", "round_unit(root)", "never_paper(root)", "is_never_paper(root, value)"],
+    "taken": ["taken_off(root, poly)", "summed_up(root, first, second)"],
+    "logs": ["log_poly(root)", "log_head(root, unit)"],
+    "integrals": [
+        "integral(root, poly)", "why_none(root, poly)", "is_integral(root, poly, value)", "is_why(root, poly, value)"],
 }
 PROPERTIES = [
     "Ratio.top", "Ratio.bottom", "Ratio.sign", "Ratio.is_whole", "Root.degree", "Root.half", "State.is_reduced"]
