@@ -34,6 +34,6 @@ def norm(root, first, second):
     """first squared less D times second squared, both of a degree of at most 60."""
     wanted_root(root)
     upper, lower = told(first), told(second)
-    if 2 * (len(upper) - 1) > MOST_DEGREE or (lower and 2 * (root.half + len(lower) - 1) > MOST_DEGREE):
+    if 2 * max(len(upper) - 1, root.half + len(lower) - 1) > MOST_DEGREE:
         raise TooMany("degree", MOST_DEGREE)
     return norm_of(root, upper, lower)

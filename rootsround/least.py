@@ -3,8 +3,8 @@
 from rootsround.basics import wanted_many
 from rootsround.ratios import Ratio
 from rootsround.roots import wanted_root
-from rootsround.units import number_of, wanted_unit
-from rootsround.walks import half_walk, size_of, unit_of
+from rootsround.units import least_behind, number_of, wanted_unit
+from rootsround.walks import half_walk, unit_of
 
 MOST_DEGREE = 12
 
@@ -38,9 +38,8 @@ def whole_round(root, most):
 
 def is_least(root, unit):
     """Whether no unit of the root has a lesser degree."""
-    first, _ = wanted_unit(root, unit)
-    wholes, _ = half_walk(root, len(first) - 1)
-    return size_of(wholes) == len(first) - 1
+    pair = wanted_unit(root, unit)
+    return len(least_behind(root, pair)[0]) == len(pair[0])
 
 
 def head_of_power(root, many):
@@ -56,11 +55,12 @@ def head_of_power(root, many):
 def place_of(root, unit):
     """The tuple (number, power) of a unit: it is the number times this power of the least unit."""
     first, second = wanted_unit(root, unit)
-    least = unit_of(half_walk(root, len(first) - 1)[0])
+    least = least_behind(root, (first, second))
     many = (len(first) - 1) // (len(least[0]) - 1)
     number = first[-1].over(head_of_power(root, many))
     if first[-1].sign == second[-1].sign:
         return number, many
+    own = number_of(root, least)
     for _ in range(many):
-        number = number * number_of(root, least[0], least[1])
+        number = number * own
     return number, -many

@@ -6,8 +6,7 @@ from rootsround.extracts import extracted
 from rootsround.plain import grown
 from rootsround.polys import MOST_DEGREE
 from rootsround.ratios import ratio_of
-from rootsround.units import number_of, product_of_pairs, wanted_unit
-from rootsround.walks import half_walk, unit_of
+from rootsround.units import least_behind, number_of, product_of_pairs, wanted_unit
 
 MOST_TAKEN = 5
 
@@ -24,19 +23,12 @@ def power_unit(root, unit, many):
     return result
 
 
-def least_behind(root, unit):
-    """The least unit of a root with this unit, and its number."""
-    first, _ = wanted_unit(root, unit)
-    pair = unit_of(half_walk(root, len(first) - 1)[0])
-    return pair, number_of(root, pair[0], pair[1])
-
-
 def stands(root, unit, number):
     """Whether some unit of the root has this number."""
-    _, own = least_behind(root, unit)
-    wanted = ratio_of(number)
+    pair, wanted = wanted_unit(root, unit), ratio_of(number)
     if wanted.sign == 0:
         return False
+    own = number_of(root, least_behind(root, pair))
     return extracted(wanted, 2) is not None or extracted(wanted * own, 2) is not None
 
 
@@ -47,18 +39,19 @@ def times_number(pair, number):
 
 def with_number(root, unit, number):
     """A unit of the root with this number; None if there is none."""
-    pair, own = least_behind(root, unit)
-    wanted = ratio_of(number)
+    pair, wanted = wanted_unit(root, unit), ratio_of(number)
     if wanted.sign == 0:
         return None
+    least = least_behind(root, pair)
+    own = number_of(root, least)
     # the wanted number is the least unit's times a square just if both multiplied are a square
     crossed = extracted(wanted * own, 2)
     if crossed is not None:
-        return times_number(pair, crossed.over(own.size()))
+        return times_number(least, crossed.over(own.size()))
     side = extracted(wanted, 2)
     if side is None:
         return None
-    if 2 * (len(pair[0]) - 1) > MOST_DEGREE:
+    if 2 * (len(least[0]) - 1) > MOST_DEGREE:
         raise TooMany("degree", MOST_DEGREE)
     # taken twice, the least unit has its number squared
-    return times_number(product_of_pairs(root.poly(), pair, pair), side.over(own.size()))
+    return times_number(product_of_pairs(root.poly(), least, least), side.over(own.size()))

@@ -4,12 +4,12 @@ from rootsround.errors import InvalidUnit, TooMany
 from rootsround.plain import added, multiplied, negative
 from rootsround.polys import MOST_DEGREE, is_poly, told
 from rootsround.roots import wanted_root
-from rootsround.walks import norm_of
+from rootsround.walks import half_walk, norm_of, unit_of
 
 
-def number_of(root, first, second):
-    """The Ratio that the norm of two told polynomials is."""
-    return norm_of(root, first, second)[0]
+def number_of(root, pair):
+    """The number of a unit, both halves told."""
+    return norm_of(root, pair[0], pair[1])[0]
 
 
 def is_unit(root, value):
@@ -30,10 +30,15 @@ def wanted_unit(root, value):
     return told(value[0]), told(value[1])
 
 
+def least_behind(root, pair):
+    """The least unit of a root that has this unit, both halves told."""
+    wholes, _ = half_walk(root, len(pair[0]) - 1)
+    return unit_of(wholes)
+
+
 def unit_number(root, unit):
     """The number of the unit."""
-    first, second = wanted_unit(root, unit)
-    return number_of(root, first, second)
+    return number_of(root, wanted_unit(root, unit))
 
 
 def contrary(root, unit):

@@ -23,7 +23,6 @@ def other_prime(root, primes, wanted):
 
 def first_look(root):
     """A tuple of the first primes that keep the root, and the rest degree at the first one."""
-    wanted_root(root)
     primes = kept_primes(root, MOST_PRIMES)
     return primes, rest_degree(root, primes[0])
 

@@ -1,7 +1,10 @@
 """Chains over fractions, walked step by step, on told polynomials without limits of degrees."""
 
+from rootsround.modular import half_walk_modulo, rests_told
 from rootsround.plain import added, grown, lessened, multiplied, parted
+from rootsround.primes import is_kept
 from rootsround.ratios import Ratio
+from rootsround.wholes import GREAT_PRIME
 
 
 def norm_of(root, first, second):
@@ -49,11 +52,27 @@ def parts_of(wholes):
     return found
 
 
+def is_far(root, most):
+    """Whether one great prime shows that no unit of the root has a degree of at most most.
+
+    The least unit of a round root has its degree modulo each odd prime that
+    keeps the root. It is a quick look that spares most of the long walks.
+    """
+    poly = root.poly()
+    if not is_kept(poly, GREAT_PRIME):
+        return False
+    near, body = rests_told(root.nearest(), GREAT_PRIME), rests_told(poly, GREAT_PRIME)
+    wholes = half_walk_modulo(near, body, GREAT_PRIME, most)
+    return wholes is None or size_of(wholes) > most
+
+
 def half_walk(root, most):
     """A tuple of the whole parts ahead of the first Q that is a number, from Q1 on, and this number.
 
     None if no part with a degree of at most most stands ahead of such a Q.
     """
+    if is_far(root, most):
+        return None
     near, place = root.nearest(), begun(root)
     wholes = []
     reached = root.half

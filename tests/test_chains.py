@@ -2,13 +2,14 @@
 
 from rootsround.chains import norm, parts, quotients, states
 from rootsround.errors import InvalidMany, InvalidPoly, InvalidRoot, TooMany
+from rootsround.moves import moved_root, scaled_root
 from rootsround.parts import common
-from rootsround.polys import degree, scaled
+from rootsround.polys import degree, put_in, scaled
 from rootsround.ratios import Ratio
 from rootsround.roots import Root
 from rootsround.states import State, first_state
-from tests.helpers import (NOT_INTEGERS, NOT_POLYS, NOT_ROOTS, Checks, Sub, fracs, ratios, some_poly, some_root,
-                           source_of)
+from tests.helpers import (NOT_INTEGERS, NOT_POLYS, NOT_ROOTS, Checks, Sub, frac, fracs, ratio, ratios, some_poly,
+                           some_root, source_of)
 from tests.own import NEVER, own_chain, own_norm, own_part, root_of, round_roots
 
 NOT_MANY = NOT_INTEGERS + [-1, -16, 17, 18, 1000, Ratio(3), Ratio(1, 2), Sub(17), Sub(-1), "3"]
@@ -104,6 +105,19 @@ class ListsTest(Checks):
             if 2 * steps + 1 < many:
                 self.assertEqual(told_states[2 * steps + 1], told_states[1])
                 self.assert_bool(told_states[steps + 1] == told_states[1], number == Ratio(1))
+
+    def test_moved_and_scaled(self):
+        for root in some_roots(77, 6):
+            wholes = quotients(root, 4)
+            for first, second in [(3, -1), (Ratio(1, 2), Ratio(2, 3)), (-1, 0), (-2, 5)]:
+                # moved by a number below 0 the root of an odd d has its sign turned
+                sign = -1 if frac(first) < 0 and root.half % 2 else 1
+                wanted = [scaled(put_in(whole, [second, first]), sign) for whole in wholes]
+                self.assertEqual(quotients(moved_root(root, first, second), 4), wanted)
+            for number in (3, Ratio(2, 5), -2):
+                size = ratio(abs(frac(number)))
+                wanted = [scaled(whole, Ratio(1).over(size) if at % 2 else size) for at, whole in enumerate(wholes)]
+                self.assertEqual(quotients(scaled_root(root, number), 4), wanted)
 
     def test_bounds(self):
         root = Root([0, -2, 0, 0, 1])

@@ -2,6 +2,7 @@
 
 from rootsround.errors import InvalidMany, InvalidRoot, InvalidUnit
 from rootsround.least import half_round, is_least, least_unit, place_of, whole_round
+from rootsround.moves import scaled_root
 from rootsround.polys import degree, scaled
 from rootsround.ratios import Ratio
 from rootsround.roots import Root
@@ -75,6 +76,24 @@ class LeastTest(Checks):
                 self.assertEqual(half_round(root_of(text), 12)[0], steps)
                 self.assertEqual(str(half_round(root_of(text), many)[1]), number)
                 self.assertIsNone(half_round(root_of(text), many - 1))
+
+    def test_roots_that_a_great_prime_does_not_keep(self):
+        great = 2 ** 61 - 1
+        for root, many, steps, number in round_roots()[::4]:
+            for side in (great, Ratio(2, great)):
+                far = scaled_root(root, side)
+                wanted = number if steps % 2 == 0 else number * side * side
+                for most in range(13):
+                    self.assertEqual(half_round(far, most), (steps, wanted) if most >= many else None)
+                p, q = least_unit(root, many)
+                self.assertEqual(least_unit(far, 12), (scaled(p, side), q))
+        for text in NEVER:
+            far = scaled_root(root_of(text), great)
+            for most in range(11 if far.degree == 4 else 8):
+                self.assertIsNone(least_unit(far, most))
+        for poly in [[-great, 0, 0, 0, 1], [Ratio(1, great), 0, 0, 0, 1], [great, great, 0, 0, 1]]:
+            found = least_unit(Root(poly), 2)
+            self.assertEqual(found is None, poly[1] != 0)
 
     def test_bounds(self):
         root = Root([-2, 0, 1])

@@ -84,6 +84,8 @@ class KeepsTest(Checks):
         self.assert_bool(keeps(Root([1, 0, 9]), 3), False)
         self.assert_bool(keeps(Root([1, 0, 9]), 5), True)
         self.assert_bool(keeps(Root([1, 0, Ratio(1, 25)]), 5), False)
+        self.assert_bool(keeps(Root([Ratio(1, 25), 0, Ratio(1, 25)]), 5), False)
+        self.assert_bool(keeps(Root([Ratio(3, 25), Ratio(1, 5), Ratio(4, 25)]), 5), False)
         self.assert_bool(keeps(Root([1, Ratio(1, 7), 1]), 7), False)
         self.assert_bool(keeps(Root([Ratio(7, 11), 1, 1]), 7), True)
         self.assert_bool(keeps(Root([Ratio(7, 11), 1, 1]), 11), False)

@@ -128,8 +128,26 @@ class VerdictTest(Checks):
                 self.assert_error(TooMany, STEPS, function, Root(poly))
 
     def test_the_second_chain_is_too_long(self):
-        for poly in [[-2, 4, 3, -2, -2, -3, 1, 2, 1], [0, -4, 1, 3, -3, -1, -4, -1, 1]]:
+        for poly in [[-2, 4, 3, -2, -2, -3, 1, 2, 1], [0, -4, 1, 3, -3, -1, -4, -1, 1],
+                     [-3, -2, -1, -2, -3, -3, 0, -4, 1]]:
             self.assertEqual(self.check_root(Root(poly)), (STEPS, STEPS))
+        self.assertEqual(mod_degree(Root(poly), 3), 9)
+
+    def test_degree_4_just_at_the_bound_and_above(self):
+        """Of all primes below 800 13 alone keeps these roots, and the chain modulo the next one is too long."""
+        spoiled = 1
+        for prime in PRIMES:
+            if prime < 800 and prime != 13:
+                spoiled *= prime
+        for numbers, wanted in [([-5, 7, 7], 12), ([-8, -7, 4], 13)]:
+            root = Root([Ratio(number, spoiled) for number in numbers] + [0, 1])
+            self.assertEqual((kept(root, 2), mod_degree(root, 13)), ([13, 809], wanted))
+            self.assertIsNone(mod_degree(root, 809))
+            self.assert_error(TooMany, STEPS, never_paper, root)
+            if wanted == 12:
+                self.assertEqual([round_degree(root), is_round(root), round_unit(root)], [None, False, None])
+            else:
+                self.assert_error(TooMany, STEPS, round_degree, root)
 
     def test_a_short_chain_and_a_long_one(self):
         """No second prime is looked at for a verdict by the chain over fractions, but for a paper."""
@@ -216,8 +234,8 @@ class NeverPaperTest(Checks):
                     self.assert_error(TooMany, STEPS, is_never_paper, value=value, root=root)
             # these are no papers whatever the chains tell
             for value in [(prime, own, prime, found), (prime, own, other, own), (prime, 0, other, 1),
-                          (prime, 1, other, -1), [prime, own, other, found], (prime, own, 9, found),
-                          (prime, own, other, True), (prime, own), (prime, own, other, Ratio(found))]:
+                          (prime, 1, other, 0), (prime, 1, other, -1), [prime, own, other, found], (prime, own),
+                          (prime, own, 9, found), (prime, own, other, True), (prime, own, other, Ratio(found))]:
                 self.assert_bool(is_never_paper(root, value), False)
 
     def test_two_chains_that_are_too_long(self):
