@@ -53,6 +53,12 @@ LISTED = {
     "logs": ["log_poly(root)", "log_head(root, unit)"],
     "integrals": [
         "integral(root, poly)", "why_none(root, poly)", "is_integral(root, poly, value)", "is_why(root, poly, value)"],
+    "reals": ["is_all_real(root)", "stretch_of(root, number)", "between(root)"],
+    "swings": ["swings(root, unit)", "inner_counts(root, unit)", "turns(root, unit, number)"],
+    "sweeps": [
+        "is_sweep(root, poly, number)", "greater(root, unit, poly)", "is_greater(root, unit, poly, value)"],
+    "makes": ["made_by(poly, number)", "line_root(first, second)"],
+    "pairs": ["made_pair(first, second)"],
 }
 PROPERTIES = [
     "Ratio.top", "Ratio.bottom", "Ratio.sign", "Ratio.is_whole", "Root.degree", "Root.half", "State.is_reduced"]
