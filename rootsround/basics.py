@@ -1,4 +1,4 @@
-"""Which values are INTEGERS, and which are COUNTS."""
+"""Which values are INTEGERS, and which are COUNTS; values copied."""
 
 from rootsround.errors import InvalidMany
 
@@ -11,6 +11,13 @@ def is_integer(value):
 def is_count(value):
     """Whether the value is an INTEGER that is at least 0."""
     return is_integer(value) and value >= 0
+
+
+def copied(value):
+    """The value, with lists and tuples new, those in it too."""
+    if isinstance(value, list):
+        return [copied(part) for part in value]
+    return tuple([copied(part) for part in value]) if isinstance(value, tuple) else value
 
 
 def wanted_many(value, least, most):

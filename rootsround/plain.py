@@ -104,7 +104,7 @@ def worth_at(poly, number):
 def composed(poly, inner):
     """The polynomial with the inner one in the place of x."""
     result = []
-    for number in reversed(poly):
+    for number in poly[::-1]:
         result = added(multiplied(result, inner), trimmed([number]))
     return result
 

@@ -63,7 +63,7 @@ def top_at(numbers, top, bottom):
     """The worth of a polynomial at top / bottom, times the bottom as often as the degree tells."""
     worth = 0
     scale = 1
-    for number in reversed(numbers):
+    for number in numbers[::-1]:
         worth = worth * top + number * scale
         scale = scale * bottom
     return worth

@@ -59,10 +59,25 @@ LISTED = {
         "is_sweep(root, poly, number)", "greater(root, unit, poly)", "is_greater(root, unit, poly, value)"],
     "makes": ["made_by(poly, number)", "line_root(first, second)"],
     "pairs": ["made_pair(first, second)"],
+    "inner": ["put_root(root, poly)", "unit_put(root, unit, poly)", "told_root(many)"],
+    "texts": ["sorts()", "is_form(sort, value)", "written(sort, value)"],
+    "readers": ["read(text)"],
+    "claims": [
+        "words()", "is_claim(value)", "is_true(claim)", "contrary(claim)", "paper_of(claim)",
+        "is_paper_of(claim, value)"],
+    "commands": ["is_name(value)", "is_command(value)", "is_deed(value)"],
+    "desk": [
+        "Desk.__init__(self)", "Desk.names(self)", "Desk.labels(self)", "Desk.__len__(self)",
+        "Desk.__getitem__(self, at)", "Desk.__contains__(self, x)", "Desk.claim_of(self, label)",
+        "Desk.do(self, command)", "Desk.__call__(self, command)", "Desk.do_all(self, *commands)",
+        "Desk.attempt(self, *commands)", "Desk.attach(self, label, paper)", "Desk.fits(self, label)",
+        "Desk.lines(self)", "Desk.copy(self)", "Desk.again(cls, lines)", "Trial.__init__(self, desk)",
+        "Trial.__enter__(self)", "Trial.__exit__(self, kind, value, trace)", "tried(desk, action)"],
 }
 PROPERTIES = [
-    "Ratio.top", "Ratio.bottom", "Ratio.sign", "Ratio.is_whole", "Root.degree", "Root.half", "State.is_reduced"]
-CLASS_METHODS = ["Ratio.total"]
+    "Ratio.top", "Ratio.bottom", "Ratio.sign", "Ratio.is_whole", "Root.degree", "Root.half", "State.is_reduced",
+    "Desk.names", "Desk.labels"]
+CLASS_METHODS = ["Ratio.total", "Desk.again"]
 
 
 def heads(name):
@@ -75,7 +90,8 @@ def heads(name):
         if isinstance(node, ast.ClassDef):
             inside = [(node.name + ".", one) for one in node.body if isinstance(one, ast.FunctionDef)]
         for ahead, one in inside:
-            told = ", ".join(part.arg for part in one.args.args)
+            stars = ["*" + one.args.vararg.arg] if one.args.vararg else []
+            told = ", ".join([part.arg for part in one.args.args] + stars)
             found[f"{ahead}{one.name}({told})"] = [part.id for part in one.decorator_list]
     return found
 

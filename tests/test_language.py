@@ -247,12 +247,27 @@ class LanguageTest(unittest.TestCase):
 
     def test_l6_l7_statements_and_expressions(self):
         barred = (ast.Global, ast.AsyncFor, ast.AsyncWith, ast.Await, ast.AsyncFunctionDef, ast.Set, ast.SetComp,
-                  ast.GeneratorExp, ast.Div, ast.MatMult, ast.Yield, ast.YieldFrom, ast.Lambda, ast.Starred,
+                  ast.GeneratorExp, ast.Div, ast.MatMult, ast.Yield, ast.YieldFrom, ast.Lambda,
                   ast.NamedExpr, ast.AnnAssign)
         self.flag([place for place, _ in nodes(barred)])
+        self.check_stars()
         for place, node in nodes(ast.Constant):
             self.assertNotIsInstance(node.value, (float, complex, bytes), place)
             self.assertIsNot(node.value, Ellipsis, place)
+
+    def check_stars(self):
+        """Stars stand in calls of own functions, methods and local variables, over names."""
+        called = {part: node for _, node in nodes(ast.Call) for part in node.args if isinstance(part, ast.Starred)}
+        for place, node in nodes(ast.Starred):
+            self.assertIn(node, called, place)
+            self.assertIsInstance(node.value, ast.Name, place)
+            self.assertEqual(called[node].keywords, [], place)
+            function = called[node].func
+            self.assertNotIn(getattr(function, "id", None), BUILTIN_NAMES, place)
+        for place, node in nodes(ast.Dict):
+            for key, value in zip(node.keys, node.values):
+                if key is None:
+                    self.assertIsInstance(value, (ast.Name, ast.Attribute), place)
 
     def test_l7_l27_powers_have_literal_exponents(self):
         for place, node in nodes((ast.BinOp, ast.AugAssign)):
@@ -346,7 +361,50 @@ class LanguageTest(unittest.TestCase):
             self.assertIsInstance(node.exc, ast.Call, place)
             self.assertIsInstance(node.exc.func, ast.Name, place)
             self.assertEqual(node.exc.keywords, [], place)
-        self.flag([place for place, _ in nodes((ast.Try, ast.TryStar, ast.With, ast.Match, ast.Nonlocal))])
+            if node.cause is not None:
+                self.assertTrue(isinstance(node.cause, ast.Name) or node.cause.value is None, place)
+        self.flag([place for place, _ in nodes((ast.TryStar, ast.Match, ast.Nonlocal))])
+        own = {node.name for node in TREES["errors.py"].body if isinstance(node, ast.ClassDef)}
+        for place, node in nodes(ast.Try):
+            self.assertEqual((node.orelse, node.finalbody), ([], []), place)
+            for handler in node.handlers:
+                kinds = handler.type.elts if isinstance(handler.type, ast.Tuple) else [handler.type]
+                self.assertLessEqual({kind.id for kind in kinds}, own, place)
+                used = [one for one in ast.walk(handler) if isinstance(one, ast.Name) and one.id == handler.name]
+                causes = [one.cause for one in ast.walk(handler) if isinstance(one, ast.Raise)]
+                self.assertLessEqual(set(used), set(causes), place)
+
+    def test_l5_l17_a_class_with_items(self):
+        for name, node in classes():
+            methods = {one.name: one for one in methods_of(node)}
+            if "__getitem__" in methods:
+                self.assertEqual([one.arg for one in methods["__getitem__"].args.args], ["self", "at"])
+                last = methods["__iter__"].body[-1]
+                self.assertIsInstance(last, ast.Raise)
+                self.assertEqual((last.exc.func.id, len(methods["__iter__"].body)), ("TypeError", 1), name)
+        self.assertNotIn("keys", OWN_METHODS | OWN_ATTRIBUTES)
+        for name, text in TEXTS.items():
+            self.assertNotRegex(text, r"\(type\)|Meta|metaclass=", name)
+        for place, node in nodes(ast.Call):
+            if isinstance(node.func, ast.Name) and node.func.id == "reversed":
+                over = node.args[0]
+                is_call = isinstance(over, ast.Call) and over.func.id in {"list", "tuple", "sorted", "range"}
+                self.assertTrue(is_call or isinstance(over, (ast.List, ast.Tuple)), place)
+
+    def test_l6_with_and_exit(self):
+        own = {node.name: [one.name for one in methods_of(node)] for _, node in classes()}
+        for place, node in nodes(ast.With):
+            for item in node.items:
+                self.assertIn("__enter__", own[item.context_expr.func.id], place)
+                self.assertIsInstance(item.optional_vars, ast.Name, place)
+        for name, node in classes():
+            for method in methods_of(node):
+                if method.name == "__exit__":
+                    self.assertEqual([one.arg for one in method.args.args], ["self", "kind", "value", "trace"])
+                    for row in method.body:
+                        self.assertIsInstance(row, ast.Assign, name)
+                        self.assertIsInstance(row.value, ast.Attribute, name)
+                        self.assertIsInstance(row.targets[0], ast.Attribute, name)
 
     def test_l20_is(self):
         for place, node in nodes(ast.Compare):
@@ -386,17 +444,18 @@ class LanguageTest(unittest.TestCase):
             for method in methods_of(node):
                 quiet = method.name in SPECIAL - {"__init__"} or [one for one in method.decorator_list
                                                                    if one.id == "property"]
-                if quiet:
-                    self.check_quiet(method, plain, 0)
+                if quiet and method.name not in {"__enter__", "__exit__", "__call__"}:
+                    self.check_quiet(method, plain, [])
 
-    def check_quiet(self, function, plain, depth):
-        self.assertLess(depth, 20)
+    def check_quiet(self, function, plain, met):
+        met.append(function.name)
         for node in ast.walk(function):
             self.assertNotIsInstance(node, (ast.AugAssign, ast.Delete))
             if isinstance(node, (ast.Attribute, ast.Subscript)):
                 self.assertIsInstance(node.ctx, ast.Load, function.name)
             if isinstance(node, ast.Call) and isinstance(node.func, ast.Name) and node.func.id in plain:
-                self.check_quiet(plain[node.func.id], plain, depth + 1)
+                if node.func.id not in met:
+                    self.check_quiet(plain[node.func.id], plain, met)
 
     def test_l24_no_sets(self):
         for place, node in nodes(ast.Name):

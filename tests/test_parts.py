@@ -6,7 +6,7 @@ from rootsround.plain import cleared
 from rootsround.polys import degree, derived, divided, minus, plus, put_in, scaled, times, told
 from rootsround.ratios import Ratio
 from rootsround.wholes import are_apart, last_rest
-from tests.helpers import NOT_POLYS, Checks, fracs, ratio, ratios, some_number, some_poly, source_of
+from tests.helpers import NOT_POLYS, Checks, fracs, ratios, some_number, some_poly, source_of
 
 NOUGHTS = [[], (), [0], (0, Ratio(0)), [0] * 61]
 ONE = [Ratio(1)]
