@@ -26,14 +26,14 @@ def put_root(root, poly):
     """The tuple of the Root of D' and of g: D with the polynomial put in is D' g g."""
     wanted_root(root)
     numbers = wanted_inner(poly, root.degree)
-    return square_taken_out(composed(root.poly(), numbers))
+    return square_taken_out(composed(root.poly(), numbers), numbers)
 
 
 def unit_put(root, unit, poly):
     """The unit of the Root of D' that the unit of D becomes with the polynomial put in."""
     first, second = wanted_unit(root, unit)
     numbers = wanted_inner(poly, max(root.degree, len(first) - 1))
-    _, part = square_taken_out(composed(root.poly(), numbers))
+    _, part = square_taken_out(composed(root.poly(), numbers), numbers)
     return composed(first, numbers), multiplied(composed(second, numbers), part)
 
 

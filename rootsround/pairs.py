@@ -1,8 +1,8 @@
 """Roots that are made of pairs of polynomials, with their units."""
 
 from rootsround.errors import NotApart, NoughtPoly
-from rootsround.makes import checked_size, square_taken_out
-from rootsround.parts import common_part, shares
+from rootsround.makes import checked_size, root_within
+from rootsround.parts import common_part, greatest_square, shares
 from rootsround.plain import grown, lessened, multiplied, parted, quotient_of
 from rootsround.polys import told
 from rootsround.ratios import Ratio
@@ -29,6 +29,8 @@ def made_pair(first, second):
     if len(common_part(one, other)) > 1:
         raise NotApart()
     upper, lower = lines_of(one, other)
-    root, part = square_taken_out(multiplied(upper, lower))
+    # v and u have nothing in common, so each has its own square part
+    part = multiplied(greatest_square(upper), greatest_square(lower))
+    root = root_within(multiplied(upper, lower), part)
     lead = lessened(multiplied(upper, multiplied(other, other)), [Ratio(1)])
     return root, (lead, multiplied(multiplied(one, other), part))

@@ -40,9 +40,8 @@ def square_free(poly):
     return quotient_of(poly, common_part(poly, slope(poly)))
 
 
-def greatest_square(poly):
-    """The greatest square part of a told polynomial that is not nought."""
-    repeated = common_part(poly, slope(poly))
+def square_met(poly, repeated):
+    """The greatest square part of a told polynomial that is not nought; told its common part with it derived."""
     single = quotient_of(poly, repeated)
     result = [Ratio(1)]
     times_met = 1
@@ -54,6 +53,11 @@ def greatest_square(poly):
         if times_met % 2 == 0:
             result = multiplied(result, single)
     return result
+
+
+def greatest_square(poly):
+    """The greatest square part of a told polynomial that is not nought."""
+    return square_met(poly, common_part(poly, slope(poly)))
 
 
 def told_not_nought(poly):
