@@ -1,16 +1,18 @@
 """Which polynomials sweep a root, and that no other one stays as near to nought as half a unit."""
 
 from rootsround.errors import TooMany, UnlikeHeads
-from rootsround.plain import bare, lessened, multiplied, parted, worth_at
+from rootsround.plain import bare, cleared, lessened, multiplied, parted, worth_at
 from rootsround.polys import told
 from rootsround.ratios import Ratio, is_number, ratio_of
 from rootsround.reals import checked_real, is_on_stretch
 from rootsround.roots import falling, wanted_root
-from rootsround.signs import bound_of, parted_roots
+from rootsround.signs import bound_of, changes_between, parted_roots
 from rootsround.units import number_of, wanted_unit
 from rootsround.wholes import top_at
 
 MOST_DEGREE = 30
+# behind so many halvings of all spans it is looked for one that is enough
+LOOK = 16
 
 
 def side_of(poly):
@@ -75,6 +77,19 @@ def halved(span):
     return numbers, middle, other_end if sign_at(numbers, one_end) == sign else one_end
 
 
+def has_sign_alone(numbers, span):
+    """Whether the polynomial of whole numbers certainly has one sign, not 0, all over the span."""
+    low, high = (span[1], span[2]) if span[1].is_below(span[2]) else (span[2], span[1])
+    return sign_at(numbers, low) != 0 and changes_between(numbers, low, high) == 0
+
+
+def is_sure(lead, change, span):
+    """Whether the change has the sign of p, the lead, all over a span: so both added are beyond p at its root."""
+    if span[1] == span[2] or sign_at(lead, span[1]) != sign_at(change, span[1]):
+        return False
+    return has_sign_alone(lead, span) and has_sign_alone(change, span)
+
+
 def greater(root, unit, poly):
     """A Ratio on a stretch at which the polynomial's square is above the unit's number; None if it is p.
 
@@ -85,12 +100,19 @@ def greater(root, unit, poly):
     if numbers == pair[0]:
         return None
     number = number_of(root, pair)
+    lead, change = bare(pair[0]), cleared(lessened(numbers, pair[0]))[0]
     spans = spans_of(root.poly()) + spans_of(pair[1])
+    steps = 0
     while True:
-        for _, place, _ in spans:
-            if is_above(root, numbers, number, place):
-                return place
+        for span in spans:
+            if is_above(root, numbers, number, span[1]):
+                return span[1]
         spans = [halved(span) for span in spans]
+        steps += 1
+        if steps % LOOK == 0 and len(spans) > 1:
+            sure = [span for span in spans if is_sure(lead, change, span)]
+            # one of these is enough: the last one, as at a root of q fewer steps are wanted
+            spans = sure[-1:] if sure else spans
 
 
 def is_greater(root, unit, poly, value):

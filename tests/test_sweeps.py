@@ -9,6 +9,7 @@ from rootsround.polys import put_in
 from rootsround.powers import power_unit
 from rootsround.ratios import Ratio
 from rootsround.roots import Root
+from rootsround.signs import fences
 from rootsround.sweeps import greater, is_greater, is_sweep
 from tests.helpers import (
     NOT_NUMBERS, NOT_POLYS, NOT_ROOTS, Checks, Sub, frac, frac_plus, frac_times, frac_worth, fracs, ratio, ratios,
@@ -139,7 +140,47 @@ class SweepTest(Checks):
         self.assert_error(InvalidNumber, {"value": None}, is_sweep, SWEPT, [1] * 40, None)
 
 
+def turning_numbers(root, unit):
+    """Numbers close to those at which p p is just the unit's number, the upper end of each gap left out."""
+    body = frac_times(fracs(root.poly()), fracs(unit[1]))
+    posts = [frac(post) for post in fences(ratios(body))]
+    found = []
+    for low, high in zip(posts, posts[1:]):
+        for _ in range(80):
+            middle = (low + high) / 2
+            same = (frac_worth(body, low) > 0) == (frac_worth(body, middle) > 0)
+            low, high = (middle, high) if same else (low, middle)
+        found.append(low)
+    signs = [frac_worth(fracs(unit[0]), one) > 0 for one in found]
+    return [(one, sign) for at, (one, sign) in enumerate(zip(found, signs)) if at == 0 or sign != signs[at - 1]]
+
+
+def through(points):
+    """The polynomial of a lesser degree than there are points (number, worth) with these worths."""
+    result = []
+    for number, wanted in points:
+        piece = [wanted]
+        for other, _ in points:
+            if other != number:
+                piece = frac_times(piece, [-other / (number - other), 1 / (number - other)])
+        result = frac_plus(result, piece)
+    return result
+
+
 class GreaterTest(Checks):
+    def test_beyond_at_one_number_alone(self):
+        # the others' signs are such that at all turning numbers but one f is nearer to nought than p
+        for root, unit, number, _, _ in with_powers(6, 3)[::3]:
+            turning = turning_numbers(root, unit)
+            self.assertEqual(len(turning), len(unit[0]))
+            for at in range(len(turning)):
+                for size in (Fraction(1, 10 ** 3), Fraction(1, 10 ** 14)):
+                    change = through([(one, -size if sign else size) for one, sign in turning[:at] + turning[at + 1:]])
+                    other = ratios(frac_plus(fracs(unit[0]), change))
+                    found = greater(root, unit, other)
+                    self.check_number(root, number, other, found)
+                    self.assert_bool(is_greater(root, unit, other, found), True)
+
     def check_number(self, root, number, poly, found):
         self.assertIs(found.__class__, Ratio)
         self.assertLessEqual(digits(found), 2000)
@@ -151,6 +192,33 @@ class GreaterTest(Checks):
         self.check_number(root, number, poly, found)
         self.assert_bool(is_greater(root, unit, poly, found), True)
         self.assertEqual(greater(poly=poly, unit=unit, root=root), found)
+
+    def check_far(self, root, unit, number, change):
+        other = ratios(frac_plus(fracs(unit[0]), [Fraction(one) for one in change]))
+        found = greater(root, unit, other)
+        self.check_number(root, number, other, found)
+
+    def test_differences_that_change_their_sign_beside_a_turning_number(self):
+        # 2 x x - 1, moved: it turns at an inner number, beside which a very small difference is nought
+        for third in range(-7, 8):
+            step = Fraction(third, 3)
+            root, p = Root(ratios([step * step - 1, -2 * step, 1])), [2 * step * step - 1, -4 * step, 2]
+            unit = ratios(p), ratios([-2 * step, 2])
+            for beside in (Fraction(1, 10 ** 7), Fraction(-1, 10 ** 7), Fraction(1, 10 ** 12)):
+                for size in (Fraction(1, 10 ** 20), Fraction(-1, 10 ** 20)):
+                    self.check_far(root, unit, 1, [size * (beside - step), size])
+
+    def test_roots_of_p_beside_turning_numbers(self):
+        small = Fraction(1, 10 ** 6)
+        for third in range(-7, 8):
+            step = Fraction(third, 3)
+            root, unit = own_made([step, Fraction(-1)], small * small)
+            for size in (Fraction(1, 10 ** 30), Fraction(-1, 10 ** 30)):
+                self.check_far(root, unit, small * small, [size])
+            root, unit = own_made([step * step - 1, -2 * step, 1], small * small)
+            for size in (Fraction(1, 10 ** 30), Fraction(-1, 10 ** 30)):
+                self.check_far(root, unit, small * small, [size])
+                self.check_far(root, unit, small * small, [-size * step, size])
 
     def test_others_of_the_same_degree_and_head(self):
         for root, unit, number, _, _ in with_powers():
@@ -184,7 +252,7 @@ class GreaterTest(Checks):
         for root, unit, number, _, _ in with_powers(9, 3)[::3]:
             for at in (0, len(unit[0]) - 2):
                 other = list(unit[0])
-                other[at] = other[at] - Ratio(1, 10 ** 60)
+                other[at] = other[at] - Ratio(1, 10 ** (60 if at else 150))
                 found = greater(root, unit, other)
                 self.check_number(root, number, other, found)
                 self.assert_bool(is_greater(root, unit, other, found), True)
