@@ -2,12 +2,15 @@
 
 from rootsround.ratios import Ratio, ratio_of
 
+# Python itself reads not many more digits at once
+MOST_DIGITS = 4000
+
 
 def count_in(word):
     """The COUNT that the word tells; None if it tells none."""
-    if not word.isdigit() or not word.isascii() or (len(word) > 1 and word.startswith("0")):
+    if not word.isdigit() or not word.isascii() or len(word) > MOST_DIGITS:
         return None
-    return int(word)
+    return None if len(word) > 1 and word.startswith("0") else int(word)
 
 
 def integer_in(word):

@@ -127,6 +127,11 @@ class CommandTest(Checks):
             for word in NOT_COUNTS:
                 self.check(head + word + tail, False, False)
 
+    def test_endless_numbers(self):
+        for word in ["1" * 9000, "-" + "1" * 9000, "1/" + "7" * 9000]:
+            for line in ("told r ", "poly p ", "poly p 1,", "scaled s p "):
+                self.check(line + word, False, False)
+
     def test_lists_of_numbers(self):
         for word in LISTS:
             self.check("poly p " + word, True, True)

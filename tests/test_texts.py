@@ -135,6 +135,11 @@ class ReadTest(Checks):
         for sort, value in [("poly", [number, -number]), ("numbers", [number])]:
             self.assertEqual(read(written(sort, value)), (sort, value))
 
+    def test_endless_numbers(self):
+        for word in ["1" * 9000, "-" + "1" * 9000, "1/" + "7" * 9000, "1" * 9000 + "/2"]:
+            self.check_wrong("poly " + word + "\n", 1)
+            self.check_wrong("primes\nat 3 " + word + "\n", 2)
+
     def test_what_is_no_string(self):
         for value in [None, True, 0, 1, b"poly\n", [], ["poly\n"], ("poly\n",), {}, {"poly\n"}, object(), Ratio(1),
                       str]:
